@@ -1,0 +1,1 @@
+"""Bastion: a fault-tolerant quantum memory with surface codes."""

@@ -1,0 +1,166 @@
+"""Slow and plain models of what DOC.md describes, written without the package.
+
+A model operator is a tuple (power, letters) of a power of i and a text with one letter for each qubit.
+A model group is a dict from the letters of its operators to their powers, with all operators in it.
+"""
+
+from itertools import combinations
+
+LETTER_PRODUCTS = {
+    ("X", "Y"): (1, "Z"), ("Y", "Z"): (1, "X"), ("Z", "X"): (1, "Y"),
+    ("Y", "X"): (3, "Z"), ("Z", "Y"): (3, "X"), ("X", "Z"): (3, "Y"),
+}
+
+ONE_QUBIT_IMAGES = {
+    "H": {"X": (0, "Z"), "Z": (0, "X"), "Y": (2, "Y")},
+    "S": {"X": (0, "Y"), "Y": (2, "X"), "Z": (0, "Z")},
+    "X": {"X": (0, "X"), "Y": (2, "Y"), "Z": (2, "Z")},
+    "Y": {"X": (2, "X"), "Y": (0, "Y"), "Z": (2, "Z")},
+    "Z": {"X": (2, "X"), "Y": (2, "Y"), "Z": (0, "Z")},
+}
+
+
+def letter_product(a, b):
+    if a == "I" or b == "I":
+        return (0, a if b == "I" else b)
+    return (0, "I") if a == b else LETTER_PRODUCTS[a, b]
+
+
+def product(a, b):
+    power = a[0] + b[0]
+    letters = ""
+    for one, two in zip(a[1], b[1]):
+        more, letter = letter_product(one, two)
+        power += more
+        letters += letter
+    return (power % 4, letters)
+
+
+def product_of(width, operators):
+    result = (0, "I" * width)
+    for operator in operators:
+        result = product(result, operator)
+    return result
+
+
+def commute(a, b):
+    return product(a, b) == product(b, a)
+
+
+def negative(a):
+    return ((a[0] + 2) % 4, a[1])
+
+
+def single(width, places):
+    return "".join(places.get(q, "I") for q in range(width))
+
+
+def to_masks(operator):
+    power, letters = operator
+    x = sum(1 << q for q, letter in enumerate(letters) if letter in "XY")
+    z = sum(1 << q for q, letter in enumerate(letters) if letter in "ZY")
+    return (power, x, z)
+
+
+def from_masks(width, p):
+    power, x, z = p
+    return (power, "".join("IXZY"[(x >> q & 1) + 2 * (z >> q & 1)] for q in range(width)))
+
+
+def all_letters(width):
+    texts = [""]
+    for _ in range(width):
+        texts = [text + letter for text in texts for letter in "IXYZ"]
+    return texts
+
+
+def cx_image(width, control, target, letter_at, letter):
+    """The image of one letter under CX, from those of X and Z; Y is i X Z."""
+    images = {
+        (control, "X"): (0, single(width, {control: "X", target: "X"})),
+        (control, "Z"): (0, single(width, {control: "Z"})),
+        (target, "X"): (0, single(width, {target: "X"})),
+        (target, "Z"): (0, single(width, {control: "Z", target: "Z"})),
+    }
+    if letter == "Y":
+        both = product(images[letter_at, "X"], images[letter_at, "Z"])
+        return ((both[0] + 1) % 4, both[1])
+    return images[letter_at, letter]
+
+
+def letter_image(gate, width, at, letter):
+    if letter == "I" or at not in gate[1:]:
+        return (0, single(width, {at: letter}))
+    if gate[0] == "CX":
+        return cx_image(width, gate[1], gate[2], at, letter)
+    power, image = ONE_QUBIT_IMAGES[gate[0]][letter]
+    return (power, single(width, {at: image}))
+
+
+def image(gate, operator):
+    power, letters = operator
+    width = len(letters)
+    parts = [letter_image(gate, width, at, letter) for at, letter in enumerate(letters)]
+    more, result = product_of(width, parts)
+    return ((power + more) % 4, result)
+
+
+def group_of(width, generators):
+    group = [(0, "I" * width)]
+    for generator in generators:
+        group = group + [product(one, generator) for one in group]
+    return dict((letters, power) for power, letters in group)
+
+
+class ModelState:
+    """A stabilizer state, as the dict of its whole group."""
+
+    def __init__(self, width, generators):
+        self.width = width
+        self.group = group_of(width, generators)
+
+    def replace(self, operators):
+        self.group = dict((letters, power) for power, letters in operators)
+
+    def operators(self):
+        return [(power, letters) for letters, power in self.group.items()]
+
+    def apply(self, gate):
+        self.replace([image(gate, one) for one in self.operators()])
+
+    def strike(self, p):
+        self.replace([one if commute(one, p) else negative(one) for one in self.operators()])
+
+    def expectation(self, p):
+        if p[1] not in self.group:
+            return 0
+        return 1 if self.group[p[1]] == p[0] else -1
+
+    def measure(self, p, coin):
+        value = self.expectation(p)
+        if value:
+            return ((1 - value) // 2, False)
+        kept = [one for one in self.operators() if commute(one, p)]
+        new = negative(p) if coin else p
+        self.replace(kept + [product(one, new) for one in kept])
+        return (coin, True)
+
+    def reset(self, qubit, coin):
+        if self.measure((0, single(self.width, {qubit: "Z"})), coin)[0] == 1:
+            self.apply(("X", qubit))
+
+
+def span_of(masks):
+    """All sums of some of the masks, as a set, straight from the words of point 1.2."""
+    sums = set()
+    for count in range(len(masks) + 1):
+        for some in combinations(masks, count):
+            total = 0
+            for mask in some:
+                total ^= mask
+            sums.add(total)
+    return sums
+
+
+def odd(mask):
+    return bin(mask).count("1") % 2
