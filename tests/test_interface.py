@@ -1,0 +1,74 @@
+"""The interface of DOC.md: every name is defined in its file, with its arguments."""
+
+import importlib
+import inspect
+import unittest
+
+FUNCTIONS = {
+    "bits": {
+        "weight": "mask", "parity": "mask", "members": "mask", "mask_of": "numbers", "echelon": "rows", "rank": "rows",
+        "in_span": "rows mask", "combination": "rows mask", "solve": "rows bits", "kernel": "rows width",
+    },
+    "pauli": {
+        "pauli_mul": "a b", "commute": "a b", "pauli_weight": "p", "negated": "p", "shifted": "p by",
+        "product_of": "paulis", "pauli_text": "width p", "read_pauli": "text",
+    },
+    "state": {"state_of": "width paulis", "joined_state": "first second"},
+    "code": {"joined_code": "first second"},
+    "patch": {
+        "touched": "rows columns i j", "corners": "rows columns", "check_mask": "rows columns i j",
+        "patch": "rows columns", "draw": "rows columns x z",
+    },
+    "circuit": {"qubits_of": "op", "round_ops": "rows columns", "life_ops": "rows columns rounds"},
+}
+
+METHODS = {
+    ("state", "State"): {
+        "__init__": "width", "apply": "gate", "strike": "p", "expectation": "p", "measure": "p coin",
+        "reset": "qubit coin", "stabilizers": "", "same_as": "other", "duplicate": "",
+    },
+    ("code", "Code"): {
+        "__init__": "width x_checks z_checks x_logicals z_logicals", "syndrome": "letter mask",
+        "logical_bits": "letter mask", "is_trivial": "letter mask", "fix": "letter syndrome bits",
+        "distance": "letter", "check_paulis": "", "logical_pauli": "p", "encoded": "paulis signs",
+    },
+    ("errors", "InvalidLine"): {"__init__": "line"},
+}
+
+PROPERTIES = {("code", "Code"): ["x_checks", "z_checks", "x_logicals", "z_logicals"]}
+
+
+def module(name):
+    return importlib.import_module("bastion." + name)
+
+
+def arguments(function):
+    return [name for name in inspect.signature(function).parameters if name != "self"]
+
+
+class InterfaceTest(unittest.TestCase):
+
+    def test_functions(self):
+        for file, table in FUNCTIONS.items():
+            for name, wanted in table.items():
+                function = getattr(module(file), name)
+                self.assertTrue(inspect.isfunction(function), name)
+                self.assertEqual(function.__module__, "bastion." + file)
+                self.assertEqual(arguments(function), wanted.split(), name)
+
+    def test_methods_stand_in_their_class(self):
+        for (file, class_name), table in METHODS.items():
+            own = getattr(module(file), class_name)
+            self.assertEqual(own.__module__, "bastion." + file)
+            for name, wanted in table.items():
+                self.assertIn(name, vars(own))
+                self.assertEqual(arguments(vars(own)[name]), wanted.split(), name)
+
+    def test_properties_stand_in_their_class(self):
+        for (file, class_name), names in PROPERTIES.items():
+            for name in names:
+                self.assertIsInstance(vars(getattr(module(file), class_name))[name], property)
+
+
+if __name__ == "__main__":
+    unittest.main()
