@@ -5,6 +5,7 @@ A model group is a dict from the letters of its operators to their powers, with 
 """
 
 from itertools import combinations
+from random import Random
 
 LETTER_PRODUCTS = {
     ("X", "Y"): (1, "Z"), ("Y", "Z"): (1, "X"), ("Z", "X"): (1, "Y"),
@@ -18,6 +19,9 @@ ONE_QUBIT_IMAGES = {
     "Y": {"X": (2, "X"), "Y": (0, "Y"), "Z": (2, "Z")},
     "Z": {"X": (2, "X"), "Y": (2, "Y"), "Z": (0, "Z")},
 }
+
+# cx stands there more than once, so that it is chosen more often.
+OPERATIONS = ["wait", "zero", "plus", "read_z", "read_x", "cx", "cx", "cx"]
 
 
 def letter_product(a, b):
@@ -164,3 +168,131 @@ def span_of(masks):
 
 def odd(mask):
     return bin(mask).count("1") % 2
+
+
+class ModelFrame:
+    """A frame as sets of qubits, moved operation by operation."""
+
+    def __init__(self):
+        self.x = set()
+        self.z = set()
+        self.flips = []
+
+    def strike(self, fault):
+        self.x ^= set(members(fault[1]))
+        self.z ^= set(members(fault[2]))
+
+    def execute(self, op):
+        kind, qubits = op[0], op[1:]
+        if kind in ("zero", "plus"):
+            self.x.discard(qubits[0])
+            self.z.discard(qubits[0])
+        if kind == "cx":
+            control, target = qubits
+            if control in self.x:
+                self.x ^= {target}
+            if target in self.z:
+                self.z ^= {control}
+        if kind == "read_z":
+            self.flips.append(1 if qubits[0] in self.x else 0)
+        if kind == "read_x":
+            self.flips.append(1 if qubits[0] in self.z else 0)
+
+
+def members(mask):
+    return [k for k, digit in enumerate(reversed(bin(mask)[2:])) if digit == "1"]
+
+
+def frame(ops, faults):
+    """The final frame of point 6.6, as a tuple (flips, x, z)."""
+    result = ModelFrame()
+    for at, op in enumerate(ops):
+        before = op[0].startswith("read")
+        if not before:
+            result.execute(op)
+        for fault in faults:
+            if fault[0] == at:
+                result.strike(fault)
+        if before:
+            result.execute(op)
+    return (result.flips, sum(2 ** q for q in result.x), sum(2 ** q for q in result.z))
+
+
+def edge_sets(graph):
+    """All ascending lists of edges of a graph, the shorter ones first."""
+    return [list(some) for count in range(len(graph[1]) + 1) for some in combinations(range(len(graph[1])), count)]
+
+
+def odd_ends(graph, edges):
+    """The nodes at which an odd number of the edges end, straight from the words of point 7.7."""
+    nodes, listed = graph
+    return [node for node in range(nodes) if sum(node in listed[k][:2] for k in edges) % 2 == 1]
+
+
+def flip_of(graph, edges):
+    return sum(graph[1][k][2] for k in edges) % 2
+
+
+def leaves(edge, mask):
+    """Whether exactly one end of an edge is a member; the boundary never is, as masks have nodes only."""
+    return (mask & 1 << edge[0] != 0) != (mask & 1 << edge[1] != 0)
+
+
+def random_graph(source, nodes, count):
+    """A graph with at most count different edges."""
+    edges = set()
+    for _ in range(count):
+        a, b = sorted(source.sample(range(nodes + 1), 2))
+        edges.add((a, b, source.randrange(2)))
+    return (nodes, tuple(sorted(edges)))
+
+
+def small_graphs(seed, count, most_nodes, most_edges):
+    """Random graphs, from graphs with hardly any edges to full ones, and some special ones."""
+    source = Random(seed)
+    special = [
+        (0, ()), (1, ()), (3, ()), (1, ((0, 1, 0),)), (1, ((0, 1, 0), (0, 1, 1))), (2, ((0, 1, 0),)),
+        (2, ((0, 1, 0), (0, 1, 1))), (2, ((0, 1, 1), (0, 2, 0), (1, 2, 0))), (4, ((0, 1, 0), (2, 3, 1))),
+    ]
+    chosen = [
+        random_graph(source, source.randint(1, most_nodes), source.randint(0, most_edges)) for _ in range(count)
+    ]
+    return special + chosen
+
+
+def is_least_shown(graph, fired, size, cuts):
+    """Point 8.3, straight from its words."""
+    right = all(len(set(members(mask)) & set(fired)) % 2 == 1 for mask in cuts)
+    often = [sum(leaves(edge, mask) for mask in cuts) for edge in graph[1]]
+    return len(cuts) == 2 * size and right and max(often, default=0) <= 2
+
+
+def random_ops(source, width, count):
+    ops = []
+    for _ in range(count):
+        kind = source.choice(OPERATIONS)
+        ops.append((kind, *source.sample(range(width), 2 if kind == "cx" else 1)))
+    return ops
+
+
+def random_fault(source, ops, at):
+    """Any fault of an operation."""
+    while True:
+        x, z = [sum(source.choice([0, 2 ** q]) for q in ops[at][1:]) for _ in range(2)]
+        if x or z:
+            return (at, x, z)
+
+
+def random_faults(source, ops, count):
+    return [random_fault(source, ops, source.randrange(len(ops))) for _ in range(count)]
+
+
+def random_bits(source, count):
+    return [source.randrange(2) for _ in range(count)]
+
+
+def in_order(letters, signs):
+    """The signs of checks in the order of their letters, from those of all X checks and then of all Z checks."""
+    x_signs = list(signs[:list(letters).count("X")])
+    z_signs = list(signs[len(x_signs):])
+    return [x_signs.pop(0) if letter == "X" else z_signs.pop(0) for letter in letters]

@@ -10,6 +10,7 @@ from bastion.errors import InvalidSize
 from bastion.patch import corners, patch, touched
 from bastion.pauli import negated, read_pauli
 from bastion.state import State, joined_state
+from tests import model
 
 SIZES = [(2, 2), (2, 3), (3, 2), (3, 3), (2, 5), (5, 2), (4, 3), (4, 4), (5, 5)]
 SMALL = [(1, 2), (2, 1), (1, 1), (0, 0), (-1, 4), (4, -1), (0, 9)]
@@ -64,10 +65,7 @@ def helpers(source, count):
 
 def by_corners(rows, columns, code_signs):
     """The signs in the order of the corners, from those in the order of check_paulis."""
-    letters = [letter for letter, _, _ in corners(rows, columns)]
-    x_signs = code_signs[:letters.count("X")]
-    z_signs = code_signs[letters.count("X"):]
-    return [x_signs.pop(0) if letter == "X" else z_signs.pop(0) for letter in letters]
+    return model.in_order([letter for letter, _, _ in corners(rows, columns)], code_signs)
 
 
 class OperationsTest(unittest.TestCase):

@@ -20,6 +20,17 @@ FUNCTIONS = {
         "patch": "rows columns", "draw": "rows columns x z",
     },
     "circuit": {"qubits_of": "op", "round_ops": "rows columns", "life_ops": "rows columns rounds"},
+    "faults": {
+        "is_fault": "ops fault", "simple_faults": "ops letter", "run_frame": "ops faults",
+        "run_state": "state ops faults coins",
+    },
+    "record": {
+        "record_of": "rows columns rounds signs faults", "fired_nodes": "rows columns record letter",
+    },
+    "graph": {
+        "life_graph": "rows columns rounds letter", "odd_nodes": "graph edges", "total_flip": "graph edges",
+        "distances": "graph start",
+    },
 }
 
 METHODS = {

@@ -33,6 +33,9 @@ BARRED_NODES = (
 MODULE_NODES = (ast.ImportFrom, ast.FunctionDef, ast.ClassDef, ast.Assign, ast.Expr)
 
 
+MODIFIERS = "append clear extend insert pop remove reverse setdefault sort update".split()
+
+
 def files():
     return sorted(PACKAGE.glob("*.py"))
 
@@ -50,6 +53,23 @@ def bound_names(function):
     names = [argument.arg for argument in ast.walk(function.args) if isinstance(argument, ast.arg)]
     stored = [node.id for node in ast.walk(function) if isinstance(node, ast.Name) and isinstance(node.ctx, ast.Store)]
     return names + stored
+
+
+def looped_names(loop):
+    """The names that a loop goes over, also through enumerate and the like."""
+    calls = [loop.iter, *getattr(loop.iter, "args", [])]
+    calls += [argument for call in calls for argument in getattr(call, "args", [])]
+    owners = [call.func.value for call in calls if isinstance(getattr(call, "func", None), ast.Attribute)]
+    return [node.id for node in calls + owners if isinstance(node, ast.Name)]
+
+
+def modified_names(statements):
+    """The names whose lists or dicts some statements modify."""
+    inside = [node for statement in statements for node in ast.walk(statement)]
+    methods = [node.func for node in inside if isinstance(node, ast.Call) and isinstance(node.func, ast.Attribute)]
+    owners = [method.value for method in methods if method.attr in MODIFIERS]
+    items = [node.value for node in inside if isinstance(node, ast.Subscript) and not isinstance(node.ctx, ast.Load)]
+    return [node.id for node in owners + items if isinstance(node, ast.Name)]
 
 
 class LanguageTest(unittest.TestCase):
@@ -123,6 +143,11 @@ class LanguageTest(unittest.TestCase):
         for name, node in nodes(ast.Call):
             if isinstance(node.func, ast.Attribute):
                 self.assertIn(node.func.attr, list(BUILTIN_METHODS) + own, (name, node.lineno))
+
+    def test_no_loop_modifies_what_it_goes_over(self):
+        for name, node in nodes(ast.For):
+            for looped in looped_names(node):
+                self.assertNotIn(looped, modified_names(node.body), (name, node.lineno))
 
     def test_strings(self):
         for name, node in nodes(ast.Constant):
