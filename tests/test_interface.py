@@ -31,6 +31,14 @@ FUNCTIONS = {
         "life_graph": "rows columns rounds letter", "odd_nodes": "graph edges", "total_flip": "graph edges",
         "distances": "graph start",
     },
+    "distance": {
+        "fault_distance": "graph", "shows_distance": "graph size sides levels", "distance_certificate": "graph",
+    },
+    "joins": {"shows_least": "graph fired size cuts", "least_join": "graph fired"},
+    "clusters": {
+        "join_within": "graph allowed fired", "grow": "graph fired", "full_edges": "growth", "clusters": "graph edges",
+        "cluster_join": "graph fired",
+    },
 }
 
 METHODS = {
@@ -44,6 +52,11 @@ METHODS = {
         "distance": "letter", "check_paulis": "", "logical_pauli": "p", "encoded": "paulis signs",
     },
     ("errors", "InvalidLine"): {"__init__": "line"},
+    ("memory", "Memory"): {
+        "__init__": "rows columns rounds", "code": "", "ops": "", "graph": "letter", "bearable": "letter",
+        "decoded": "record", "quick": "record", "read": "letter record bits",
+    },
+    ("memory", "Decoding"): {"edges": "letter", "cuts": "letter", "flip": "letter", "correction": "letter"},
 }
 
 PROPERTIES = {("code", "Code"): ["x_checks", "z_checks", "x_logicals", "z_logicals"]}
@@ -66,6 +79,9 @@ class InterfaceTest(unittest.TestCase):
                 self.assertTrue(inspect.isfunction(function), name)
                 self.assertEqual(function.__module__, "bastion." + file)
                 self.assertEqual(arguments(function), wanted.split(), name)
+
+    def test_constants(self):
+        self.assertEqual(module("joins").MAX_FIRED, 10)
 
     def test_methods_stand_in_their_class(self):
         for (file, class_name), table in METHODS.items():
