@@ -31,6 +31,11 @@ def mask_of(numbers):
     return mask
 
 
+def are_bits(values, count):
+    """Returns True if a list has the given number of items and each is a bit, otherwise False."""
+    return len(values) == count and all([value in (0, 1) for value in values])
+
+
 def reduced(basis, mask):
     """Returns the least sum of the mask and some masks of a basis that has the form of an echelon."""
     for row in basis:

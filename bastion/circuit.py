@@ -12,6 +12,11 @@ def qubits_of(op):
     return op[1:]
 
 
+def moved_op(op, by):
+    """Returns an operation with each qubit replaced by the one that is greater by the given number."""
+    return (op[0],) + tuple([q + by for q in qubits_of(op)])
+
+
 def preparation(letter, helper):
     """Returns the operation that resets the helper of a check."""
     return ("plus" if letter == "X" else "zero", helper)

@@ -1,6 +1,6 @@
 """Codes of X checks and Z checks."""
 
-from bastion.bits import in_span, kernel, parity, rank, solve, weight
+from bastion.bits import are_bits, in_span, kernel, parity, rank, solve, weight
 from bastion.errors import InvalidCode, InvalidState, NoSolution, SizeMismatch, TooLarge
 from bastion.pauli import negated, pauli_mul, product_of
 from bastion.state import state_of
@@ -48,6 +48,12 @@ def check_code(width, x_checks, z_checks, x_logicals, z_logicals):
         raise InvalidCode("the checks are not independent")
     if len(x_checks) + len(z_checks) + len(x_logicals) != width:
         raise InvalidCode("the numbers of checks and logicals do not add up to the width")
+
+
+def check_bits(bits, count):
+    """Raises SizeMismatch if a list does not have the given number of bits."""
+    if not are_bits(bits, count):
+        raise SizeMismatch("a list does not have the right number of bits")
 
 
 def all_sums(masks):
@@ -140,8 +146,7 @@ class Code:
     def encoded(self, paulis, signs):
         """Returns the state with given values of logical operators and given signs of the checks."""
         checks = self.check_paulis()
-        if len(signs) != len(checks):
-            raise SizeMismatch("there is not one sign for each check")
+        check_bits(signs, len(checks))
         self._check_logical_state(paulis)
         signed = [negated(p) if sign else p for p, sign in zip(checks, signs)]
         return state_of(self.width, [self.logical_pauli(p) for p in paulis] + signed)

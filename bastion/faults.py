@@ -24,6 +24,12 @@ def is_fault(ops, fault):
     return struck > 0 and struck & allowed == struck
 
 
+def moved_fault(fault, by):
+    """Returns a fault with each qubit replaced by the one that is greater by the given number."""
+    at, x, z = fault
+    return (at, x << by, z << by)
+
+
 def fault_masks(op):
     """Returns the ascending list of the masks of some of the qubits of an operation, at least one."""
     qubits = sorted(qubits_of(op))

@@ -1,6 +1,6 @@
 """Memories: patches that keep a logical qubit for some rounds, and the decoding of their records."""
 
-from bastion.bits import mask_of
+from bastion.bits import are_bits, mask_of
 from bastion.circuit import life_ops
 from bastion.clusters import full_edges, grow, join_within
 from bastion.distance import fault_distance
@@ -8,7 +8,7 @@ from bastion.errors import InvalidRecord
 from bastion.graph import life_graph, total_flip
 from bastion.joins import least_join
 from bastion.patch import patch
-from bastion.record import check_changes, checks_against, fired_nodes
+from bastion.record import changed_checks, check_changes, fired_nodes
 
 LETTERS = ("X", "Z")
 
@@ -19,9 +19,8 @@ def check_rows(rows, many, length):
     """Raises InvalidRecord if there are not as many rows as wanted, each with as many bits as wanted."""
     if len(rows) != many:
         raise InvalidRecord("the number of rows is wrong")
-    for row in rows:
-        if len(row) != length or any([bit not in (0, 1) for bit in row]):
-            raise InvalidRecord("a row does not have the right number of bits")
+    if not all([are_bits(row, length) for row in rows]):
+        raise InvalidRecord("a row does not have the right number of bits")
 
 
 def grown_join(graph, fired):
@@ -32,8 +31,7 @@ def grown_join(graph, fired):
 
 def correction_of(memory, record, letter, flip):
     """Returns an error of a letter that explains the last row of a record and has a given logical bit."""
-    checks = checks_against(memory.rows, memory.columns, letter)
-    syndrome = [record[-1][k] ^ record[0][k] for k in checks]
+    syndrome = changed_checks(memory.rows, memory.columns, letter, record[0], record[-1])
     return memory.code().fix(letter, syndrome, [flip])
 
 

@@ -50,13 +50,19 @@ def check_mask(rows, columns, i, j):
     return mask_of(qubits_at(rows, columns, i, j))
 
 
+def corner_paulis(rows, columns):
+    """Returns the list of the operators of the checks, in order."""
+    masks = [(letter, check_mask(rows, columns, i, j)) for letter, i, j in corners(rows, columns)]
+    return [(0, mask, 0) if letter == "X" else (0, 0, mask) for letter, mask in masks]
+
+
 def patch(rows, columns):
     """Returns the code of a patch."""
-    masks = [(letter, check_mask(rows, columns, i, j)) for letter, i, j in corners(rows, columns)]
+    checks = corner_paulis(rows, columns)
     return Code(
         rows * columns,
-        [mask for letter, mask in masks if letter == "X"],
-        [mask for letter, mask in masks if letter == "Z"],
+        [x for _, x, _ in checks if x],
+        [z for _, _, z in checks if z],
         [mask_of([r * columns for r in range(rows)])],
         [mask_of(list(range(columns)))],
     )

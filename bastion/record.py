@@ -1,17 +1,14 @@
 """Records, which tell what was seen of the checks in a life, and the nodes that they fire."""
 
-from bastion.bits import parity
 from bastion.circuit import life_ops
 from bastion.faults import run_frame
-from bastion.patch import check_mask, corners
+from bastion.patch import corner_paulis, corners
+from bastion.pauli import commute
 
 
 def check_changes(rows, columns, x, z):
     """Returns a list with a bit for each check: 1 if it does not commute with a Pauli operator."""
-    return [
-        parity(check_mask(rows, columns, i, j) & (z if letter == "X" else x))
-        for letter, i, j in corners(rows, columns)
-    ]
+    return [int(not commute(check, (0, x, z))) for check in corner_paulis(rows, columns)]
 
 
 def record_of(rows, columns, rounds, signs, faults):
@@ -34,3 +31,8 @@ def fired_nodes(rows, columns, record, letter):
     seen = [[row[k] for k in checks] for row in record]
     changes = [before != after for t in range(1, len(seen)) for before, after in zip(seen[t - 1], seen[t])]
     return [node for node, change in enumerate(changes) if change]
+
+
+def changed_checks(rows, columns, letter, first, last):
+    """Returns a list with a bit for each check of the other letter: 1 if it differs between two rows of a record."""
+    return [first[k] ^ last[k] for k in checks_against(rows, columns, letter)]

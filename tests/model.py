@@ -296,3 +296,16 @@ def in_order(letters, signs):
     x_signs = list(signs[:list(letters).count("X")])
     z_signs = list(signs[len(x_signs):])
     return [x_signs.pop(0) if letter == "X" else z_signs.pop(0) for letter in letters]
+
+
+def cost_of(free, edges):
+    """Point 12.3: how many of the edges are not free."""
+    return len(set(edges) - set(free))
+
+
+def is_cheapest_shown(graph, free, fired, size, cuts):
+    """Point 12.4, straight from its words."""
+    right = all(len(set(members(mask)) & set(fired)) % 2 == 1 for mask in cuts)
+    often = [sum(leaves(edge, mask) for mask in cuts) for edge in graph[1]]
+    fits = all(many <= (0 if k in free else 2) for k, many in enumerate(often))
+    return len(cuts) == 2 * size and right and fits

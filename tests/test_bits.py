@@ -5,7 +5,9 @@ import time
 import unittest
 from itertools import permutations, product
 
-from bastion.bits import combination, echelon, in_span, kernel, mask_of, members, parity, rank, solve, weight
+from bastion.bits import (
+    are_bits, combination, echelon, in_span, kernel, mask_of, members, parity, rank, solve, weight,
+)
 from bastion.errors import NoSolution
 from tests.model import odd, span_of
 
@@ -37,6 +39,12 @@ class MasksTest(unittest.TestCase):
         self.assertEqual(parity(12), 0)
         self.assertEqual(members(13), [0, 2, 3])
         self.assertEqual(mask_of([3, 0, 2]), 13)
+
+    def test_are_bits(self):
+        self.assertIs(are_bits([], 0), True)
+        self.assertIs(are_bits([0, 1, 1], 3), True)
+        for values, count in (([], 1), ([0], 0), ([0, 1], 3), ([0, 1], 1), ([2], 1), ([0, -1], 2)):
+            self.assertIs(are_bits(values, count), False)
 
     def test_all_masks_below_256(self):
         for mask in range(256):

@@ -39,6 +39,11 @@ FUNCTIONS = {
         "join_within": "graph allowed fired", "grow": "graph fired", "full_edges": "growth", "clusters": "graph edges",
         "cluster_join": "graph fired",
     },
+    "experiment": {"read_experiment": "text"},
+    "erasures": {
+        "erased_edges": "rows columns rounds letter erasures", "shows_cheapest": "graph free fired size cuts",
+        "cheapest_join": "graph free fired", "decoded_with": "memory record erasures",
+    },
 }
 
 METHODS = {
@@ -57,6 +62,13 @@ METHODS = {
         "decoded": "record", "quick": "record", "read": "letter record bits",
     },
     ("memory", "Decoding"): {"edges": "letter", "cuts": "letter", "flip": "letter", "correction": "letter"},
+    ("bank", "Bank"): {
+        "__init__": "sizes rounds", "memory": "k", "first_qubit": "k", "physical": "p", "store": "paulis signs",
+        "live": "state faults coins", "last_rows": "state", "repair": "state signs rows", "value": "state p",
+    },
+    ("experiment", "Experiment"): {
+        "bank": "", "paulis": "", "signs": "", "faults": "", "coins": "", "text": "", "bearable": "", "run": "",
+    },
 }
 
 PROPERTIES = {("code", "Code"): ["x_checks", "z_checks", "x_logicals", "z_logicals"]}
