@@ -348,6 +348,17 @@ class RepairTest(unittest.TestCase):
         self.bank.repair(self.state, self.signs, self.rows)
         self.assertTrue(self.state.same_as(self.bank.store(self.paulis, self.signs)))
 
+    def test_helpers_are_reset_with_the_coin_0(self):
+        """A helper that is entangled with the logical qubit is brought to 0 by a measurement with the outcome 0."""
+        bank = Bank([(2, 2)], 1)
+        stored = bank.store([read_pauli("+Z")], [[0, 0, 0]])
+        state = stored.duplicate()
+        for gate in (("H", 4), ("CX", 4, 0), ("CX", 4, 2)):
+            state.apply(gate)
+        self.assertEqual(bank.value(state, read_pauli("+Z")), 0)
+        bank.repair(state, [[0, 0, 0]], [[[0, 0, 0]]])
+        self.assertTrue(state.same_as(stored))
+
     def test_too_many_fired_nodes(self):
         bank = Bank([(2, 2), (5, 5)], 2)
         for letter in "XZ":

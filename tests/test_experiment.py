@@ -95,6 +95,10 @@ class ReadTest(unittest.TestCase):
         experiment = read_experiment(joined(lines))
         self.assertEqual(experiment.coins(), [0, 1, 1, 0])
         self.assertEqual(experiment.text(), joined(lines[:3] + ["sign 0 0", "fault 0 0 1 0", "coins 0110"]))
+        for coin in "01":
+            experiment = read_experiment(joined(lines[:3] + ["coins " + coin]))
+            self.assertEqual(experiment.coins(), [int(coin)])
+            self.assertEqual(experiment.text(), joined(lines[:3] + ["coins " + coin]))
         word = "01" * 300
         self.assertEqual(read_experiment(joined(lines[:3] + ["coins " + word])).coins(), [0, 1] * 300)
 
@@ -191,7 +195,7 @@ class WrongLinesTest(unittest.TestCase):
     def test_coins_lines(self):
         for at in (5, 9, 11):
             self.spoil(at, ["coins", "coins ", "coins 2", "coins 012", "coins 0 1", "coins x", "coins  1", "coins 1 ", " coins 1",
-                            "Coins 1", "coins -1", "coins 0b1", "coins \u0661"])
+                            "Coins 1", "coins -1", "coins 0b1", "coins 1_0", "coins \u0661"])
 
     def test_other_lines(self):
         for at in range(len(PLAIN)):
