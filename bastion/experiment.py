@@ -176,10 +176,7 @@ def memory_line(k, memory, record):
     fired = [len(fired_nodes(memory.rows, memory.columns, record, letter)) for letter in LETTERS]
     edges = [len(decoding.edges(letter)) for letter in LETTERS]
     flips = [decoding.flip(letter) for letter in LETTERS]
-    return (
-        f"memory {k}: fired {fired[0]} {fired[1]}, edges {edges[0]} {edges[1]}, "
-        f"flips {flips[0]} {flips[1]}"
-    )
+    return f"memory {k}: fired {fired[0]} {fired[1]}, edges {edges[0]} {edges[1]}, flips {flips[0]} {flips[1]}"
 
 
 def bears(memory, faults):

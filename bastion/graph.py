@@ -37,11 +37,15 @@ def round_results(rows, columns, letter):
     return simple_effects(round_ops(rows, columns), letter, marks, ends)
 
 
+def edge_between(fired, nodes, flip):
+    """Returns the edge of a fault that fires one or two nodes."""
+    return (fired[0], fired[1] if len(fired) > 1 else nodes, flip)
+
+
 def edge_of(result, many, shift, nodes):
     """Returns the edge that a result stands for in the round whose first node has the number shift."""
-    flip = result >> 2 * many
     fired = [shift + k for k in members(result) if k < 2 * many]
-    return (fired[0], fired[1] if len(fired) > 1 else nodes, flip)
+    return edge_between(fired, nodes, result >> 2 * many)
 
 
 def life_graph(rows, columns, rounds, letter):

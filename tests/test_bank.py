@@ -95,8 +95,9 @@ class SizesTest(unittest.TestCase):
         self.assertEqual(Bank([(2, 2), (3, 3)], 1).width, 24)
 
     def test_what_is_refused(self):
-        for sizes, rounds in (([(1, 2)], 1), ([(2, 1)], 1), ([(2, 2)], 0), ([(2, 2), (2, 2)], -1), ([(2, 2), (1, 2)], 1),
-                              ([(2, 2), (3, 3), (3, 0)], 2), ([(0, 5), (3, 3)], 1), ([(1, 1)], 0)):
+        for sizes, rounds in (([(1, 2)], 1), ([(2, 1)], 1), ([(2, 2)], 0), ([(2, 2), (2, 2)], -1),
+                              ([(2, 2), (1, 2)], 1), ([(2, 2), (3, 3), (3, 0)], 2), ([(0, 5), (3, 3)], 1),
+                              ([(1, 1)], 0)):
             with self.assertRaises(InvalidSize):
                 Bank(sizes, rounds)
 
@@ -189,7 +190,8 @@ class StoreTest(unittest.TestCase):
         good = [read_pauli("+XX"), read_pauli("+ZZ")]
         right = [[0] * 3, [0] * 5]
         wrong_signs = [[], [[0] * 3], right + [[]], right + [[0] * 3], [[0] * 5, [0] * 3], [[0] * 2, [0] * 5],
-                       [[0] * 3, [0] * 6], [[], [0] * 5], [[0] * 3, []], [[0, 2, 0], [0] * 5], [[0] * 3, [0, 0, 0, 0, -1]]]
+                       [[0] * 3, [0] * 6], [[], [0] * 5], [[0] * 3, []], [[0, 2, 0], [0] * 5],
+                       [[0] * 3, [0, 0, 0, 0, -1]]]
         bad_states = [[], good[:1], good + good[:1], [good[0], good[0]], [good[0], read_pauli("+ZI")],
                       [good[0], read_pauli("+iZZ")], [good[0], read_pauli("+ZZZ")], [good[0], read_pauli("-XX")],
                       [good[0], read_pauli("+II")]]

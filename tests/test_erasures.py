@@ -92,8 +92,8 @@ class ShowsCheapestTest(unittest.TestCase):
     def test_one_too_many_and_one_too_few(self):
         cuts = [3, 3, 7, 7]
         self.assertIs(shows_cheapest(CHAIN, [0], [0], 2, cuts), True)
-        for size, list_of_cuts in ((2, cuts[1:]), (2, cuts[:3]), (2, cuts + [7]), (1, cuts), (3, cuts), (0, cuts), (2, []),
-                                   (1, cuts[:3]), (1, cuts[:1])):
+        for size, list_of_cuts in ((2, cuts[1:]), (2, cuts[:3]), (2, cuts + [7]), (1, cuts), (3, cuts), (0, cuts),
+                                   (2, []), (1, cuts[:3]), (1, cuts[:1])):
             self.assertIs(shows_cheapest(CHAIN, [0], [0], size, list_of_cuts), False)
 
     def test_a_free_edge_that_leaves_one_cut(self):

@@ -131,15 +131,17 @@ class WrongLinesTest(unittest.TestCase):
             self.assertEqual(caught.exception.line, number)
 
     def test_rounds(self):
-        self.spoil(0, ["rounds", "rounds 0", "rounds 11", "rounds 100", "rounds 1 1", "rounds x", "rounds -1", "rounds 01",
-                       "rounds +1", "rounds 1.0", "rounds 1_0", "rounds 1 ", "rounds  1", " rounds 1", "Rounds 1", "rounds1",
-                       "rounds\t1", "rounds 1\r", " ", "round 1", "rounds \u0661", "rounds \u00b2", "rounds " + "0" * 60,
+        self.spoil(0, ["rounds", "rounds 0", "rounds 11", "rounds 100", "rounds 1 1", "rounds x", "rounds -1",
+                       "rounds 01", "rounds +1", "rounds 1.0", "rounds 1_0", "rounds 1 ", "rounds  1", " rounds 1",
+                       "Rounds 1", "rounds1", "rounds\t1", "rounds 1\r", " ", "round 1", "rounds \u0661",
+                       "rounds \u00b2", "rounds " + "0" * 60,
                        "rounds " + "1" * 60, "rounds " + "1" * 61, "patch 2 2", "store +X", "coins 1", "sign 0 0", "x"])
 
     def test_patches(self):
         wrong = ["patch", "patch 2", "patch 1 2", "patch 2 1", "patch 10 2", "patch 2 10", "patch 2 2 2", "patch 02 2",
-                 "patch 2 x", "patch 2  2", "patch 2 2 ", " patch 2 2", "patch 2,2", "Patch 2 2", "patch -2 2", "patch 0 0",
-                 "patch 2 " + "9" * 60, "patch " + "9" * 61 + " 2", "rounds 2", "sign 0 0", "coins 0", "fault 0 0 1 0", " "]
+                 "patch 2 x", "patch 2  2", "patch 2 2 ", " patch 2 2", "patch 2,2", "Patch 2 2", "patch -2 2",
+                 "patch 0 0", "patch 2 " + "9" * 60, "patch " + "9" * 61 + " 2", "rounds 2", "sign 0 0", "coins 0",
+                 "fault 0 0 1 0", " "]
         self.spoil(1, wrong + ["store +X", "store +XX"])
         self.spoil(2, wrong)
 
@@ -152,9 +154,9 @@ class WrongLinesTest(unittest.TestCase):
         self.spoil(5, ["patch 2 2", "rounds 1"])
 
     def test_store_lines(self):
-        wrong = ["store", "store ", "store X", "store +", "store +X", "store +XXX", "store +iXX", "store -iZZ", "store +xx",
-                 "store + XX", "store +XX +ZZ", "store +XX ", " store +XX", "store  +XX", "store iXX", "store +XA", "store 0",
-                 "Store +XX", "sign 0 0", "fault 0 0 1 0", "coins 1", "rounds 1", "patch", " "]
+        wrong = ["store", "store ", "store X", "store +", "store +X", "store +XXX", "store +iXX", "store -iZZ",
+                 "store +xx", "store + XX", "store +XX +ZZ", "store +XX ", " store +XX", "store  +XX", "store iXX",
+                 "store +XA", "store 0", "Store +XX", "sign 0 0", "fault 0 0 1 0", "coins 1", "rounds 1", "patch", " "]
         self.spoil(3, wrong)
         self.spoil(4, wrong)
 
@@ -170,9 +172,9 @@ class WrongLinesTest(unittest.TestCase):
         self.check(["rounds 1"] + ["patch 2 2"] * 3 + ["store +XII", "store +ZII", "x"], 7)
 
     def test_sign_lines(self):
-        wrong = ["sign", "sign 0", "sign 0 3", "sign 2 0", "sign 1 8", "sign 0 0 0", "sign 00 0", "sign 0 01", "sign x 0",
-                 "sign 0 x", "sign -1 0", "sign 0 -1", "sign 0  1", "sign 0 1 ", " sign 0 1", "Sign 0 1", "sign + 1",
-                 "sign 0 " + "1" * 61, "sign " + "1" * 60 + " 0"]
+        wrong = ["sign", "sign 0", "sign 0 3", "sign 2 0", "sign 1 8", "sign 0 0 0", "sign 00 0", "sign 0 01",
+                 "sign x 0", "sign 0 x", "sign -1 0", "sign 0 -1", "sign 0  1", "sign 0 1 ", " sign 0 1", "Sign 0 1",
+                 "sign + 1", "sign 0 " + "1" * 61, "sign " + "1" * 60 + " 0"]
         for at in (5, 8, 11):
             self.spoil(at, wrong)
 
@@ -184,18 +186,19 @@ class WrongLinesTest(unittest.TestCase):
     def test_fault_lines(self):
         last = len(read_experiment(joined(PLAIN)).bank().memory(0).ops())
         wrong = ["fault", "fault 0", "fault 0 0", "fault 0 0 1", "fault 0 0 1 0 0", "fault 2 0 1 0", "fault 0 0 0 0",
-                 "fault 0 0 2 0", "fault 0 0 0 2", "fault 0 0 1 3", f"fault 0 {last} 1 0", "fault 0 00 1 0", "fault 0 0 01 0",
-                 "fault 0 0 1 x", "fault x 0 1 0", "fault 0 x 1 0", "fault -1 0 1 0", "fault 0 -1 1 0", "fault 0 0 -1 0",
-                 "fault 0 0 1 -1", "fault 0 0  1 0", "fault 0 0 1 0 ", " fault 0 0 1 0", "Fault 0 0 1 0",
-                 "fault 0 0 1" + "0" * 60 + " 0", "fault 0 " + "1" * 60 + " 1 0"]
+                 "fault 0 0 2 0", "fault 0 0 0 2", "fault 0 0 1 3", f"fault 0 {last} 1 0", "fault 0 00 1 0",
+                 "fault 0 0 01 0", "fault 0 0 1 x", "fault x 0 1 0", "fault 0 x 1 0", "fault -1 0 1 0",
+                 "fault 0 -1 1 0", "fault 0 0 -1 0", "fault 0 0 1 -1", "fault 0 0  1 0", "fault 0 0 1 0 ",
+                 " fault 0 0 1 0", "Fault 0 0 1 0", "fault 0 0 1" + "0" * 60 + " 0", "fault 0 " + "1" * 60 + " 1 0"]
         for at in (5, 9, 11):
             self.spoil(at, wrong)
-        self.assertEqual(read_experiment(joined(PLAIN + [f"fault 0 {last - 1} 64 0"])).faults()[0][1], (last - 1, 64, 0))
+        self.assertEqual(read_experiment(joined(PLAIN + [f"fault 0 {last - 1} 64 0"])).faults()[0][1],
+                         (last - 1, 64, 0))
 
     def test_coins_lines(self):
         for at in (5, 9, 11):
-            self.spoil(at, ["coins", "coins ", "coins 2", "coins 012", "coins 0 1", "coins x", "coins  1", "coins 1 ", " coins 1",
-                            "Coins 1", "coins -1", "coins 0b1", "coins 1_0", "coins \u0661"])
+            self.spoil(at, ["coins", "coins ", "coins 2", "coins 012", "coins 0 1", "coins x", "coins  1", "coins 1 ",
+                            " coins 1", "Coins 1", "coins -1", "coins 0b1", "coins 1_0", "coins \u0661"])
 
     def test_other_lines(self):
         for at in range(len(PLAIN)):

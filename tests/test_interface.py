@@ -44,6 +44,14 @@ FUNCTIONS = {
         "erased_edges": "rows columns rounds letter erasures", "shows_cheapest": "graph free fired size cuts",
         "cheapest_join": "graph free fired", "decoded_with": "memory record erasures",
     },
+    "plan": {"life_plan": "rows columns rounds signs"},
+    "joint": {
+        "sites": "rows columns", "separate_sites": "rows columns",
+        "joint_ops": "rows columns before joined after", "joint_plan": "rows columns rounds signs",
+        "tall_sites": "rows columns", "separate_tall_sites": "rows columns",
+        "tall_ops": "rows columns before joined after", "tall_plan": "rows columns rounds signs",
+    },
+    "paper": {"write_paper": "memory record decoding", "paper_holds": "text", "paper_weights": "text"},
 }
 
 METHODS = {
@@ -68,6 +76,15 @@ METHODS = {
     },
     ("experiment", "Experiment"): {
         "bank": "", "paulis": "", "signs": "", "faults": "", "coins": "", "text": "", "bearable": "", "run": "",
+    },
+    ("stream", "Stream"): {
+        "__init__": "rows columns signs", "push": "row", "close": "row", "decided": "letter", "flip": "letter",
+        "waiting": "letter",
+    },
+    ("plan", "Plan"): {
+        "__init__": "ops ends detectors observables", "ops": "", "ends": "", "detectors": "", "observables": "",
+        "readings": "", "flips": "faults", "fired": "bits letter", "value": "bits k", "graph": "k", "distance": "k",
+        "decoded": "bits k",
     },
 }
 

@@ -152,6 +152,10 @@ class LanguageTest(unittest.TestCase):
             for looped in looped_names(node):
                 self.assertNotIn(looped, modified_names(node.body), (name, node.lineno))
 
+    def test_f_strings_stand_on_one_line(self):
+        for name, node in nodes(ast.JoinedStr):
+            self.assertEqual(node.lineno, node.end_lineno, (name, node.lineno))
+
     def test_strings(self):
         for name, node in nodes(ast.Constant):
             if isinstance(node.value, str):
